@@ -1,0 +1,1 @@
+"""Swapshelves: carriers who exchange parcels at shelves."""

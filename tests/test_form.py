@@ -1,0 +1,84 @@
+"""Tests of the form of the package: its interface, and rules that a test can see."""
+
+import ast
+import importlib
+import inspect
+import unittest
+from pathlib import Path
+
+FOLDER = Path(__file__).resolve().parent.parent / "swapshelves"
+
+INTERFACE = {
+    "plans": {"pattern_length": "plan", "visits": "plan number", "places": "plan"},
+    "states": {"initial_state": "plan", "tick": "plan state", "apply_effect": "plan state effect"},
+    "effects": {
+        "effect_of": "plan time count", "compose": "one other", "invert": "effect",
+        "repeat": "effect count", "cycles": "effect", "order": "effect",
+    },
+}
+
+LIBRARY = {
+    "heapq": ("heappush", "heappop", "heapify", "heapreplace", "heappushpop"),
+    "math": ("gcd", "lcm", "isqrt", "comb", "perm", "factorial"),
+    "itertools": (
+        "product", "combinations", "permutations",
+        "chain", "accumulate", "pairwise", "islice", "zip_longest",
+    ),
+    "collections": ("defaultdict",),
+}
+
+
+def sources():
+    """Return the list of (name, text) of the files of the package."""
+    return [(path.name, path.read_text(encoding="utf-8")) for path in sorted(FOLDER.glob("*.py"))]
+
+
+class InterfaceTest(unittest.TestCase):
+    def test_functions_are_defined_where_the_interface_lists_them(self):
+        for module, functions in INTERFACE.items():
+            for name, parameters in functions.items():
+                function = getattr(importlib.import_module(f"swapshelves.{module}"), name)
+                self.assertEqual(function.__module__, f"swapshelves.{module}", name)
+                told = list(inspect.signature(function).parameters)
+                self.assertEqual(told, parameters.split(), name)
+
+
+class FormTest(unittest.TestCase):
+    def test_the_folder_contains_only_python_files(self):
+        for path in FOLDER.iterdir():
+            if path.name != "__pycache__":
+                self.assertRegex(path.name, r"^[a-z_][a-z0-9_]*\.py$")
+        self.assertTrue((FOLDER / "__init__.py").exists())
+
+    def test_characters_and_lengths(self):
+        for name, text in sources():
+            rows = text.split("\n")
+            self.assertTrue(all(" " <= sign <= "~" for row in rows for sign in row), name)
+            self.assertLessEqual(max(len(row) for row in rows), 120, name)
+            self.assertLessEqual(len(rows), 399, name)
+
+    def test_lengths_of_functions(self):
+        for name, text in sources():
+            for node in ast.walk(ast.parse(text)):
+                if isinstance(node, ast.FunctionDef):
+                    self.assertLessEqual(node.end_lineno - node.lineno + 1, 40, (name, node.name))
+
+    def test_imports_come_from_the_package_and_the_named_library(self):
+        for name, text in sources():
+            for node in ast.walk(ast.parse(text)):
+                self.assertNotIsInstance(node, ast.Import, name)
+                if isinstance(node, ast.ImportFrom):
+                    words = [alias.name for alias in node.names]
+                    allowed = LIBRARY.get(node.module, ())
+                    inside = node.level == 0 and node.module.startswith("swapshelves.")
+                    self.assertTrue(inside or all(word in allowed for word in words), name)
+
+    def test_no_percent_sign_in_strings(self):
+        for name, text in sources():
+            for node in ast.walk(ast.parse(text)):
+                if isinstance(node, ast.Constant) and isinstance(node.value, str):
+                    self.assertNotIn("%", node.value, name)
+
+
+if __name__ == "__main__":
+    unittest.main()
