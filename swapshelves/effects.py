@@ -4,21 +4,15 @@ from math import lcm
 
 from swapshelves.checks import check_count, is_within
 from swapshelves.errors import DifferentSizes, InvalidEffect
-from swapshelves.layouts import after_tick, join_layout, split_layout
-from swapshelves.plans import check_plan, common_pattern, number_of_places
+from swapshelves.laps import Lap
+from swapshelves.plans import check_plan
 
 
 def effect_of(plan, time, count):
     """Return the effect of a number of ticks on states with a time."""
     check_plan(plan)
     check_count(count)
-    # Rounds of the pattern that begin at the time and those that end there
-    # have one effect. So negative counts need no case of their own: a few
-    # rounds too many back, and the rest forward again.
-    length = common_pattern(plan[1])
-    rounds, rest = divmod(count, length)
-    whole = repeated(effect_of_few(plan, time, length), rounds)
-    return chained(whole, effect_of_few(plan, time, rest))
+    return effect_of_ticks(plan, time, count)
 
 
 def compose(one, other):
@@ -52,10 +46,7 @@ def cycles(effect):
 def order(effect):
     """Return the smallest number of times after which an effect moves nothing."""
     check_effect(effect)
-    times = 1
-    for cycle in cycles_of(effect):
-        times = lcm(times, len(cycle))
-    return times
+    return order_of(effect)
 
 
 def check_effect(effect):
@@ -74,13 +65,14 @@ def is_effect(effect):
     return len(set(effect)) == len(effect)
 
 
-def effect_of_few(plan, time, count):
-    """Return the effect of ticks that are performed one by one."""
-    carried, shelves = split_layout(plan, list(range(number_of_places(plan))))
-    for step in range(count):
-        carried, shelves, _ = after_tick(plan, time + step + 1, carried, shelves)
-    # The layout tells for each place where its parcel comes from.
-    return inverse(join_layout(carried, shelves))
+def effect_of_ticks(plan, time, count):
+    """Return the effect of a number of ticks of a valid plan."""
+    # Laps that begin at the time and those that end there have one effect. So
+    # negative counts need no case of their own: a lap too many back, and the
+    # rest forward again.
+    lap = Lap(plan, time)
+    laps, rest = divmod(count, lap.length)
+    return tuple([lap.stops[place][rest] for place in repeated(lap.effect, laps)])
 
 
 def chained(one, other):
@@ -89,7 +81,7 @@ def chained(one, other):
 
 
 def inverse(effect):
-    """Return the effect that undoes a valid effect, given as a tuple or a list."""
+    """Return the effect that undoes a valid effect."""
     origins = [0] * len(effect)
     for place, target in enumerate(effect):
         origins[target] = place
@@ -104,6 +96,14 @@ def repeated(effect, count):
         for place, target in zip(cycle, cycle[shift:] + cycle[:shift]):
             targets[place] = target
     return tuple(targets)
+
+
+def order_of(effect):
+    """Return after how many times a valid effect moves nothing."""
+    times = 1
+    for cycle in cycles_of(effect):
+        times = lcm(times, len(cycle))
+    return times
 
 
 def cycles_of(effect):

@@ -3,7 +3,7 @@
 from math import lcm
 
 from swapshelves.checks import is_within
-from swapshelves.errors import InvalidPlan
+from swapshelves.errors import InvalidPlan, UnknownCarrier, UnknownPlace, UnknownShelf
 
 MOST_SHELVES = 12
 MOST_ON_SHELF = 9
@@ -26,11 +26,7 @@ def visits(plan, number):
 def places(plan):
     """Return the list of all places: the carriers, then shelf by shelf."""
     check_plan(plan)
-    sizes, routes = plan
-    found = [("carrier", carrier) for carrier in range(len(routes))]
-    for shelf, size in enumerate(sizes):
-        found.extend([("shelf", shelf, position) for position in range(size)])
-    return found
+    return places_of(plan)
 
 
 def check_plan(plan):
@@ -66,6 +62,48 @@ def is_route(route, shelves):
         if entry is not None and not is_within(entry, 0, shelves - 1):
             return False
     return True
+
+
+def places_of(plan):
+    """Return the list of all places of a valid plan."""
+    sizes, routes = plan
+    found = [("carrier", carrier) for carrier in range(len(routes))]
+    for shelf, size in enumerate(sizes):
+        found.extend([("shelf", shelf, position) for position in range(size)])
+    return found
+
+
+def number_of_place(plan, place):
+    """Return the number of a place of a valid plan, or raise UnknownPlace."""
+    found = places_of(plan)
+    if place not in found or has_truth_values(place):
+        raise UnknownPlace("a place that the plan does not have")
+    return found.index(place)
+
+
+def has_truth_values(place):
+    """Tell whether True or False stands in a tuple, where it equals 1 or 0."""
+    for part in place:
+        if isinstance(part, bool):
+            return True
+    return False
+
+
+def check_shelf(plan, shelf):
+    """Raise UnknownShelf for the number of a shelf that a valid plan does not have."""
+    if not is_within(shelf, 0, len(plan[0]) - 1):
+        raise UnknownShelf("a shelf that the plan does not have")
+
+
+def check_carrier(plan, carrier):
+    """Raise UnknownCarrier for the number of a carrier that a valid plan does not have."""
+    if not is_within(carrier, 0, len(plan[1]) - 1):
+        raise UnknownCarrier("a carrier that the plan does not have")
+
+
+def shelves_of_places(plan):
+    """Return the list of the shelves of all places; None stands for a carrier."""
+    return [place[1] if place[0] == "shelf" else None for place in places_of(plan)]
 
 
 def number_of_places(plan):

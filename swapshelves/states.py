@@ -2,7 +2,7 @@
 
 from swapshelves.checks import is_within
 from swapshelves.effects import check_effect
-from swapshelves.errors import DifferentSizes, InvalidState
+from swapshelves.errors import DifferentSizes, InvalidState, UnknownParcel
 from swapshelves.layouts import after_tick, join_layout, split_layout
 from swapshelves.plans import check_plan, number_of_places
 
@@ -34,13 +34,23 @@ def apply_effect(plan, state, effect):
     check_effect(effect)
     if len(effect) != number_of_places(plan):
         raise DifferentSizes("an effect for another number of places")
-    time, carried, shelves = state
-    before = join_layout(carried, shelves)
+    return moved(plan, state, effect)
+
+
+def moved(plan, state, effect):
+    """Return a valid state in which all parcels have moved by an effect of its plan."""
+    before = parcels_in(state)
     after = list(before)
     for parcel, target in zip(before, effect):
         after[target] = parcel
     carried, shelves = split_layout(plan, after)
-    return time, carried, shelves
+    return state[0], carried, shelves
+
+
+def parcels_in(state):
+    """Return the list of the parcels of a valid state, in the order of the places."""
+    _, carried, shelves = state
+    return join_layout(carried, shelves)
 
 
 def check_state(plan, state):
@@ -78,3 +88,30 @@ def are_parcels(parcels):
         if not is_within(parcel, 1, LAST_PARCEL):
             return False
     return len(set(parcels)) == len(parcels)
+
+
+def are_ascending_parcels(parcels, many):
+    """Tell whether something is an ascending tuple of so many parcels."""
+    if not is_tuple_of(parcels, many) or not are_parcels(parcels):
+        return False
+    return list(parcels) == sorted(parcels)
+
+
+def check_parcel(parcels, parcel):
+    """Raise UnknownParcel for what is none of the parcels."""
+    if not is_within(parcel, 1, LAST_PARCEL) or parcel not in parcels:
+        raise UnknownParcel("a parcel that is not there")
+
+
+def place_of_parcel(state, parcel):
+    """Return the number of the place of a parcel, or raise UnknownParcel."""
+    parcels = parcels_in(state)
+    check_parcel(parcels, parcel)
+    return parcels.index(parcel)
+
+
+def start_of_parcel(plan, state, parcel):
+    """Check a plan, a state and a parcel, and return the number of the parcel's place."""
+    check_plan(plan)
+    check_state(plan, state)
+    return place_of_parcel(state, parcel)

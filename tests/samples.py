@@ -2,6 +2,12 @@
 
 from random import Random
 
+from swapshelves.errors import InvalidPlan, InvalidState, UnknownParcel
+from swapshelves.plans import places
+from swapshelves.states import tick
+
+MOST = 10 ** 18
+
 PLAN = ((1, 2), ((0, 1), (1,)))
 STATE = (0, (1, 2), ((3,), (4, 5)))
 
@@ -10,6 +16,9 @@ BUSY = ((0, 3, 9, 1), ((1, 2, None), (1,), (2, 0, 3, 1), (None, 2), (2, 2, 3, No
 IDLE = ((2, 0), ((None,), (None, None, None)))
 ALONE = ((0,), ((0,),))
 NOTHING_MOVES = ((0, 0, 0), ((0, 2), (None,), (2, 1, 0)))
+
+# In its first tick carrier 1 takes what carrier 0 has left a moment before.
+HANDED_ON = ((1, 0, 2), ((0, 2), (0, 1, None), (2, 0, 0, 0), (None, 1)))
 
 SAMPLES = (PLAN, BUSY, IDLE, ALONE, NOTHING_MOVES)
 
@@ -28,6 +37,12 @@ def random_plan(seed):
 def all_plans():
     """Return the list of the plans above and of some random ones."""
     return list(SAMPLES) + [random_plan(seed) for seed in range(25)]
+
+
+def periodic_plans():
+    """Return a list of plans whose whole periods are short enough for single ticks."""
+    chosen = [random_plan(seed) for seed in (1, 2, 6, 10, 14, 15, 18, 21, 22, 23)]
+    return list(SAMPLES) + [HANDED_ON] + chosen
 
 
 def fill(plan, time, parcels):
@@ -71,3 +86,67 @@ def slow_effect(plan, time, count):
         state, _ = slow_tick(plan, state)
     later = parcels_of(state)
     return tuple(later.index(parcel) for parcel in range(1, many + 1))
+
+
+def scattered(plan, time):
+    """Return a state of a plan in which the parcels stand in no order."""
+    many = len(plan[1]) + sum(plan[0])
+    return fill(plan, time, [1 + at * 365 % 997 for at in range(1, many + 1)])
+
+
+class History:
+    """What happens to all parcels in so many single ticks.
+
+    `states`, `where` (dicts of parcels and their places) and `lefts` (lists of
+    a parcel and the shelf on which it is left) have an item for each tick; the
+    item with index 0 tells of the state before the first tick.
+    """
+
+    def __init__(self, plan, state, count):
+        self.states = [state]
+        self.lefts = [[]]
+        for _ in range(count):
+            state, exchanges = tick(plan, state)
+            self.states.append(state)
+            self.lefts.append([(left, shelf) for _, shelf, left, _ in exchanges])
+        known = places(plan)
+        self.where = [dict(zip(parcels_of(now), known)) for now in self.states]
+
+    def stamps(self, parcel):
+        """Return the list of (tick, shelf) at which a parcel is left."""
+        found = []
+        for number, lefts in enumerate(self.lefts):
+            found.extend([(number, shelf) for left, shelf in lefts if left == parcel])
+        return found
+
+    def shelf(self, parcel, number):
+        """Return the shelf of a parcel after a number of ticks; None if it is carried."""
+        place = self.where[number][parcel]
+        return place[1] if place[0] == "shelf" else None
+
+
+def assert_errors_in_order(case, function, good, faults):
+    """Assert that each fault raises its error, also with each fault that comes later.
+
+    A fault is (index of the argument, wrong value, error); the faults are in
+    the order in which the interface tells their errors.
+    """
+    function(*good)
+    for first, (index, wrong, error) in enumerate(faults):
+        for later, further, _ in [(index, wrong, error)] + faults[first + 1:]:
+            values = list(good)
+            values[later] = further
+            values[index] = wrong
+            told = f"{function.__name__} with faults in the arguments {index} and {later}"
+            with case.assertRaises(error, msg=told):
+                function(*values)
+
+
+WRONG_PLAN = ((1, 10), ((0, 1), (1,)))
+WRONG_STATE = (0, (1, 2), ((3,), (4, 4)))
+FAULTS_OF_PLAN_AND_STATE = [(0, WRONG_PLAN, InvalidPlan), (1, WRONG_STATE, InvalidState)]
+
+
+def unknown_parcels(index):
+    """Return the faults of a parcel of STATE that is the argument with an index."""
+    return [(index, parcel, UnknownParcel) for parcel in (6, 0, -1, 999, 1000, 10 ** 5000, None, True)]

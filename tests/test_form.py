@@ -15,6 +15,32 @@ INTERFACE = {
         "effect_of": "plan time count", "compose": "one other", "invert": "effect",
         "repeat": "effect count", "cycles": "effect", "order": "effect",
     },
+    "movement": {
+        "advance": "plan state count", "locate": "plan state parcel count",
+        "parcel_at": "plan state place count", "return_time": "plan state parcel",
+        "period": "plan state",
+    },
+    "counting": {
+        "times_left": "plan state parcel shelf count",
+        "ticks_carried": "plan state parcel carrier count",
+        "ticks_on_shelf": "plan state parcel shelf count",
+        "nth_left": "plan state parcel shelf number", "stamps": "plan state parcel count",
+        "stamp_at": "plan state parcel number", "arrival": "plan state parcel place",
+    },
+    "families": {
+        "follows_by": "plan state one other", "families": "plan state",
+        "first_meeting": "plan state one other", "ticks_together": "plan state one other count",
+        "never_met": "plan state parcel",
+    },
+    "observers": {
+        "Observer": "plan time parcels", "watched": "plan time shelf count",
+        "watching_time": "plan time shelf",
+    },
+}
+
+METHODS = {
+    "see": "self place count parcel", "known_places": "self", "where": "self parcel count",
+    "what": "self place count", "records": "self",
 }
 
 LIBRARY = {
@@ -41,6 +67,12 @@ class InterfaceTest(unittest.TestCase):
                 self.assertEqual(function.__module__, f"swapshelves.{module}", name)
                 told = list(inspect.signature(function).parameters)
                 self.assertEqual(told, parameters.split(), name)
+
+    def test_methods_are_defined_in_the_class_itself(self):
+        found = vars(importlib.import_module("swapshelves.observers").Observer)
+        for name, parameters in METHODS.items():
+            told = list(inspect.signature(found[name]).parameters)
+            self.assertEqual(told, parameters.split(), name)
 
 
 class FormTest(unittest.TestCase):

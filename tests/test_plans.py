@@ -3,12 +3,19 @@
 import unittest
 
 from samples import ALONE, BUSY, IDLE, NOTHING_MOVES, PLAN, all_plans
+from swapshelves.counting import (
+    arrival, nth_left, stamp_at, stamps, ticks_carried, ticks_on_shelf, times_left,
+)
 from swapshelves.effects import effect_of
 from swapshelves.errors import InvalidPlan
+from swapshelves.families import families, first_meeting, follows_by, never_met, ticks_together
+from swapshelves.movement import advance, locate, parcel_at, period, return_time
+from swapshelves.observers import Observer, watched, watching_time
 from swapshelves.plans import pattern_length, places, visits
 from swapshelves.states import apply_effect, initial_state, tick
 
 FAR = 10 ** 40
+WRONG = (None, (), ())
 
 
 def calls(plan):
@@ -18,9 +25,29 @@ def calls(plan):
         lambda: visits(plan, 1),
         lambda: places(plan),
         lambda: initial_state(plan),
-        lambda: tick(plan, (None, (), ())),
-        lambda: apply_effect(plan, (None, (), ()), (7,)),
+        lambda: tick(plan, WRONG),
+        lambda: apply_effect(plan, WRONG, (7,)),
         lambda: effect_of(plan, 0, FAR),
+        lambda: advance(plan, WRONG, FAR),
+        lambda: locate(plan, WRONG, 0, FAR),
+        lambda: parcel_at(plan, WRONG, (), FAR),
+        lambda: return_time(plan, WRONG, 0),
+        lambda: period(plan, WRONG),
+        lambda: times_left(plan, WRONG, 0, -1, FAR),
+        lambda: ticks_carried(plan, WRONG, 0, -1, FAR),
+        lambda: ticks_on_shelf(plan, WRONG, 0, -1, FAR),
+        lambda: nth_left(plan, WRONG, 0, -1, FAR),
+        lambda: stamps(plan, WRONG, 0, FAR),
+        lambda: stamp_at(plan, WRONG, 0, FAR),
+        lambda: arrival(plan, WRONG, 0, ()),
+        lambda: follows_by(plan, WRONG, 0, 0),
+        lambda: families(plan, WRONG),
+        lambda: first_meeting(plan, WRONG, 0, 0),
+        lambda: ticks_together(plan, WRONG, 0, 0, FAR),
+        lambda: never_met(plan, WRONG, 0),
+        lambda: Observer(plan, 0, (0,)),
+        lambda: watched(plan, 0, -1, FAR),
+        lambda: watching_time(plan, 0, -1),
     ]
 
 

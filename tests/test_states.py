@@ -3,12 +3,18 @@
 import unittest
 
 from samples import ALONE, BUSY, IDLE, NOTHING_MOVES, PLAN, STATE, all_plans, fill, parcels_of, slow_tick
+from swapshelves.counting import (
+    arrival, nth_left, stamp_at, stamps, ticks_carried, ticks_on_shelf, times_left,
+)
 from swapshelves.effects import effect_of, invert
 from swapshelves.errors import DifferentSizes, InvalidEffect, InvalidPlan, InvalidState
+from swapshelves.families import families, first_meeting, follows_by, never_met, ticks_together
+from swapshelves.movement import advance, locate, parcel_at, period, return_time
 from swapshelves.plans import places, visits
 from swapshelves.states import apply_effect, initial_state, tick
 
 SAME = (0, 1, 2, 3, 4)
+FAR = 10 ** 40
 
 
 class InitialStateTest(unittest.TestCase):
@@ -32,12 +38,36 @@ class InitialStateTest(unittest.TestCase):
             initial_state(((), ((None,),)))
 
 
+def calls(plan, state):
+    """Return calls of all functions with a state, all behind it being wrong."""
+    return [
+        lambda: tick(plan, state),
+        lambda: apply_effect(plan, state, None),
+        lambda: advance(plan, state, FAR),
+        lambda: locate(plan, state, 0, FAR),
+        lambda: parcel_at(plan, state, (), FAR),
+        lambda: return_time(plan, state, 0),
+        lambda: period(plan, state),
+        lambda: times_left(plan, state, 0, -1, FAR),
+        lambda: ticks_carried(plan, state, 0, -1, FAR),
+        lambda: ticks_on_shelf(plan, state, 0, -1, FAR),
+        lambda: nth_left(plan, state, 0, -1, FAR),
+        lambda: stamps(plan, state, 0, FAR),
+        lambda: stamp_at(plan, state, 0, FAR),
+        lambda: arrival(plan, state, 0, ()),
+        lambda: follows_by(plan, state, 0, 0),
+        lambda: families(plan, state),
+        lambda: first_meeting(plan, state, 0, 0),
+        lambda: ticks_together(plan, state, 0, 0, FAR),
+        lambda: never_met(plan, state, 0),
+    ]
+
+
 class InvalidStateTest(unittest.TestCase):
     def assert_wrong(self, state, plan=PLAN):
-        with self.assertRaises(InvalidState):
-            tick(plan, state)
-        with self.assertRaises(InvalidState):
-            apply_effect(plan, state, None)
+        for call in calls(plan, state):
+            with self.assertRaises(InvalidState):
+                call()
 
     def assert_right(self, state, plan=PLAN):
         tick(plan, state)
