@@ -4,7 +4,7 @@ What is exchanged is not looked at: parcels for states, numbers of places for
 effects. So both follow from the same ticks.
 """
 
-from swapshelves.plans import visits_in_tick
+from swapshelves.plans import number_of_places, visits_in_tick
 
 
 def join_layout(carried, shelves):
@@ -40,3 +40,13 @@ def after_tick(plan, number, carried, shelves):
         hands[carrier] = taken
         exchanges.append((carrier, shelf, left, taken))
     return tuple(hands), tuple([tuple(row) for row in rows]), exchanges
+
+
+def origins_after_tick(plan, number):
+    """Return (origins, exchanges) of a tick: whence what is at each place has come.
+
+    Origins, also those in the exchanges, are numbers of places.
+    """
+    carried, shelves = split_layout(plan, list(range(number_of_places(plan))))
+    carried, shelves, exchanges = after_tick(plan, number, carried, shelves)
+    return join_layout(carried, shelves), exchanges

@@ -73,12 +73,22 @@ def places_of(plan):
     return found
 
 
+def numbers_of_places(plan):
+    """Return a dict of all places of a valid plan and their numbers."""
+    return {place: number for number, place in enumerate(places_of(plan))}
+
+
 def number_of_place(plan, place):
     """Return the number of a place of a valid plan, or raise UnknownPlace."""
     found = places_of(plan)
-    if place not in found or has_truth_values(place):
+    if not is_place(found, place):
         raise UnknownPlace("a place that the plan does not have")
     return found.index(place)
+
+
+def is_place(found, place):
+    """Tell whether something is one of the places that were found in a plan."""
+    return place in found and not has_truth_values(place)
 
 
 def has_truth_values(place):

@@ -13,9 +13,7 @@ LAST_PARCEL = 999
 def initial_state(plan):
     """Return the state with time 0 and parcels in the order of the places."""
     check_plan(plan)
-    parcels = list(range(1, number_of_places(plan) + 1))
-    carried, shelves = split_layout(plan, parcels)
-    return 0, carried, shelves
+    return state_of(plan, 0, list(range(1, number_of_places(plan) + 1)))
 
 
 def tick(plan, state):
@@ -43,8 +41,13 @@ def moved(plan, state, effect):
     after = list(before)
     for parcel, target in zip(before, effect):
         after[target] = parcel
-    carried, shelves = split_layout(plan, after)
-    return state[0], carried, shelves
+    return state_of(plan, state[0], after)
+
+
+def state_of(plan, time, parcels):
+    """Return the state with a time and with parcels in the order of the places."""
+    carried, shelves = split_layout(plan, parcels)
+    return time, carried, shelves
 
 
 def parcels_in(state):

@@ -36,6 +36,22 @@ INTERFACE = {
         "Observer": "plan time parcels", "watched": "plan time shelf count",
         "watching_time": "plan time shelf",
     },
+    "swaps": {
+        "arrangement": "plan state", "plan_swaps": "plan state goal count",
+        "fewest_swaps": "plan state goal count", "swap_all": "plan state swaps",
+        "first_difference": "plan other time",
+    },
+    "editing": {
+        "put_in": "plan state shelf parcel", "take_out": "plan state parcel",
+        "reroute": "plan carrier route",
+    },
+    "program_runs": {
+        "run_program": "plan state source", "program_effect": "plan time source",
+        "count_lefts": "plan state source parcel", "program_order": "plan time source",
+        "repetitions_to": "plan state source parcel place",
+        "first_disagreement": "plan source other",
+    },
+    "program_printer": {"format_program": "source"},
 }
 
 METHODS = {
