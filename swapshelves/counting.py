@@ -56,7 +56,7 @@ def stamps(plan, state, parcel, count):
     shelves = stamps_of_journey(plan, state, start)
     if not shelves:
         return []
-    return [shelves[index % len(shelves)] for index in range(count)]
+    return [shelves[int(index) % len(shelves)] for index in range(count)]
 
 
 def stamp_at(plan, state, parcel, number):

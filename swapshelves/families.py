@@ -98,7 +98,7 @@ def pairs_before_laps(effect, one, other):
     first = cycle_from(effect, one)
     second = cycle_from(effect, other)
     laps = lcm(len(first), len(second))
-    return [(first[index % len(first)], second[index % len(second)]) for index in range(laps)]
+    return [(first[int(index) % len(first)], second[int(index) % len(second)]) for index in range(laps)]
 
 
 def meetings_in_a_lap(plan, lap, start):

@@ -1,5 +1,6 @@
 """Printing: the text of a program in canonical form."""
 
+from swapshelves.plan_text import text_of_entry
 from swapshelves.program_parser import parse_program
 
 
@@ -44,11 +45,6 @@ def lines_of_block(head, lines):
     if not lines:
         return [head + " {}"]
     return [head + " {"] + ["  " + line for line in lines] + ["}"]
-
-
-def text_of_entry(entry):
-    """Return the text of an entry of a route."""
-    return "rest" if entry is None else str(entry)
 
 
 def text_of_place(place):

@@ -7,11 +7,37 @@ A program is a list of parts here: ("define", name, block), ("ticks", number),
 
 from random import Random
 
-from samples import slow_tick
+from samples import PLAN, STATE, slow_tick
+from swapshelves.packed import encode_program
 from swapshelves.plans import places
+from swapshelves.program_inversion import invert_program
+from swapshelves.program_printer import format_program
+from swapshelves.program_runs import (
+    count_lefts, first_disagreement, program_effect, program_order, repetitions_to, run_program,
+)
+from swapshelves.program_simplifier import simplify_program
 
 NAMES = ("a", "b", "tick", "swapper", "restx", "zzzzzzzzzz", "definee", "callx", "shelves", "ro")
-GAPS = ("", "", "", " ", "  ", "\n", " \n ", "#\n", "# 0 { call %d; }\n".replace("%d", "x"), "\n#x;#\n\n")
+GAPS = ("", "", "", " ", "  ", "\n", " \n ", "#\n", "# 0 { call x; }\n", "\n#x;#\n\n")
+
+
+def calls_with_plan(source):
+    """Return the list of functions that pass a program on with a plan."""
+    return [
+        lambda: invert_program(PLAN, source),
+        lambda: run_program(PLAN, STATE, source),
+        lambda: program_effect(PLAN, 0, source),
+        lambda: count_lefts(PLAN, STATE, source, 1),
+        lambda: program_order(PLAN, 0, source),
+        lambda: repetitions_to(PLAN, STATE, source, 1, ("carrier", 0)),
+        lambda: first_disagreement(PLAN, source, ""),
+        lambda: first_disagreement(PLAN, "", source),
+    ]
+
+
+def calls_without_plan(source):
+    """Return the list of functions that pass a program on without a plan."""
+    return [lambda: format_program(source), lambda: simplify_program(source), lambda: encode_program(source)]
 
 
 def random_program(seed, plan, most=5, ticks=12, rounds=3, depth=3):
@@ -141,6 +167,40 @@ def canonical_lines(parts, indent):
                 text = text.replace(" " + sign, sign)
             lines.append(indent + text)
     return lines
+
+
+def parts_of(text):
+    """Return the parts of a program in canonical form."""
+    found = []
+    blocks = [found]
+    for line in text.split("\n") if text else []:
+        words = line.replace(";", "").replace(",", "").replace(":", "").split()
+        if words == ["}"]:
+            blocks.pop()
+        elif words[0] in ("define", "repeat"):
+            block = []
+            blocks[-1].append((words[0], words[1] if words[0] == "define" else int(words[1]), block))
+            if words[-1] == "{":
+                blocks.append(block)
+        else:
+            blocks[-1].append(part_of(words))
+    assert blocks == [found]
+    return found
+
+
+def part_of(words):
+    """Return the part with these words: a statement without a block."""
+    if words[0] == "swap":
+        middle = 3 if words[1] == "carrier" else 4
+        return "swap", place_of(words[1:middle]), place_of(words[middle:])
+    if words[0] == "route":
+        return "route", int(words[1]), tuple(None if word == "rest" else int(word) for word in words[2:])
+    return words[0], words[1] if words[0] == "call" else int(words[1])
+
+
+def place_of(words):
+    """Return the place with these words."""
+    return (words[0],) + tuple(int(word) for word in words[1:])
 
 
 def number_of_statements(parts):

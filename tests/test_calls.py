@@ -14,11 +14,17 @@ from swapshelves.errors import InvalidPlan, InvalidState, ShelfError
 from swapshelves.families import families, first_meeting, follows_by, never_met, ticks_together
 from swapshelves.movement import advance, locate, parcel_at, period, return_time
 from swapshelves.observers import watched, watching_time
+from swapshelves.packed import (
+    decode_plan, decode_program, decode_state, encode_plan, encode_program, encode_state, pack_bytes, unpack_bytes,
+)
+from swapshelves.plan_text import format_plan, format_state, parse_plan, parse_state
 from swapshelves.plans import pattern_length, places, visits
+from swapshelves.program_inversion import invert_program
 from swapshelves.program_printer import format_program
 from swapshelves.program_runs import (
     count_lefts, first_disagreement, program_effect, program_order, repetitions_to, run_program,
 )
+from swapshelves.program_simplifier import simplify_program
 from swapshelves.states import apply_effect, initial_state, tick
 from swapshelves.swaps import arrangement, fewest_swaps, first_difference, plan_swaps, swap_all
 
@@ -35,18 +41,53 @@ WITH_STATE = [
     (arrangement, ()), (plan_swaps, ((5, 4, 3, 2, 1), 7)), (fewest_swaps, ((5, 4, 3, 2, 1), 7)),
     (swap_all, ([(ONE, TWO), (("carrier", 1), ONE)],)), (put_in, (0, 9)), (take_out, (5,)),
     (run_program, (SOURCE.replace(str(MOST), "12345"),)), (count_lefts, (SOURCE, 3)), (repetitions_to, (SOURCE, 3, TWO)),
+    (format_state, ()), (encode_state, ()),
 ]
 # The arguments behind the plan.
 WITH_PLAN = [
     (pattern_length, ()), (visits, (7,)), (places, ()), (initial_state, ()), (effect_of, (3, 17)),
     (watched, (0, 0, 3)), (watching_time, (0, 0)), (first_difference, (((1, 2), ((0, 1), (1, 1, 0))), 0)),
     (reroute, (1, (0, None))), (program_effect, (4, SOURCE)), (program_order, (4, SOURCE)),
-    (first_disagreement, (SOURCE, "ticks 3;")),
+    (first_disagreement, (SOURCE, "ticks 3;")), (invert_program, (SOURCE,)), (format_plan, ()), (encode_plan, ()),
+    (parse_state, ("time -5\ncarried 1 2\nshelf 4\nshelf 3 5",)), (decode_state, (encode_state(PLAN, STATE),)),
 ]
 OTHERS = [
     (compose, (EFFECT, (4, 3, 2, 1, 0))), (invert, (EFFECT,)), (repeat, (EFFECT, -MOST)), (cycles, (EFFECT,)),
-    (order, (EFFECT,)), (format_program, (SOURCE,)),
+    (order, (EFFECT,)), (format_program, (SOURCE,)), (simplify_program, (SOURCE,)), (encode_program, (SOURCE,)),
+    (parse_plan, ("sizes 1 2\nroute 0 1\nroute 1",)), (pack_bytes, ([0, 128, 255],)), (unpack_bytes, (b"\x00\x80\xff",)),
+    (decode_plan, (encode_plan(BUSY),)), (decode_program, (encode_program(SOURCE),)),
 ]
+# Calls that raise errors, besides those with invalid plans and states.
+WRONG_CALLS = [
+    (format_program, ("ticks",)), (simplify_program, ("call a;",)), (encode_program, ("ticks 00;",)),
+    (invert_program, (PLAN, "route 2: 0;")), (run_program, (PLAN, STATE, "repeat 2 {")), (program_order, (PLAN, 0, "%")),
+    (program_effect, (PLAN, 0, "swap carrier 0, carrier 0;")), (count_lefts, (PLAN, STATE, "", 9)),
+    (repetitions_to, (PLAN, STATE, "", 1, ("carrier", 2))), (first_disagreement, (PLAN, "", "define a {} define a {}")),
+    (parse_plan, ("sizes 1",)), (parse_plan, ("",)), (parse_state, (PLAN, "time 0")), (pack_bytes, ([256],)),
+    (decode_plan, (b"",)), (decode_state, (PLAN, b"S")), (decode_program, (b"G\x01",)),
+]
+
+# Programs for PLAN and STATE, and what they do: the plan and the state afterwards, the effect, how often
+# the parcels 1 to 5 are left, after how many times parcel 1 is at each place.
+KNOWN = (
+    (
+        "define a { ticks 3; swap carrier 0, shelf 1 1; } repeat 4 { call a; back 1; } route 1: 0 rest; ticks 2;",
+        ((1, 2), ((0, 1), (0, None))), (10, (5, 2), ((3,), (1, 4))), (3, 1, 2, 4, 0),
+        [[1, 3], [1, 4], [2, 1], [1, 3], [1, 2]], [0, 3, 4, 1, 5],
+    ),
+    (
+        "repeat 2 { ticks 1; route 0: 1; repeat 3 { ticks 2; } } repeat 1 { swap shelf 1 0, carrier 1; } "
+        "swap carrier 1, shelf 1 0; back 0;",
+        ((1, 2), ((1,), (1,))), (14, (5, 2), ((1,), (3, 4))), (2, 1, 3, 4, 0),
+        [[1, 0], [0, 7], [0, 7], [0, 7], [0, 6]], [0, None, 1, None, None],
+    ),
+    (
+        "define b { back 2; route 1: 0 1; } call b; define c { call b; repeat 5 { swap carrier 0, carrier 1; } }"
+        "repeat 7 { call c; ticks 4; }",
+        ((1, 2), ((0, 1), (0, 1))), (12, (5, 4), ((2,), (1, 3))), (3, 2, 4, 1, 0),
+        [[2, 2], [4, 2], [2, 3], [3, 3], [2, 1]], [0, 2, None, 1, None],
+    ),
+)
 WRONG_STATES = (
     (0, (1, 2), ((3,), (4, 4))), (0, (1, 2), ((3,), (4,))), (0, (1, 2), ((3,), (4, 5, 6))), (0, (1,), ((3,), (4, 5))),
     (0, (1, 2), ((3,), (4, 1000))), (0, (0, 2), ((3,), (4, 5))), (0, (1, 2), ((3, 4, 5),)),
@@ -138,6 +179,43 @@ class RepeatedCallsTest(unittest.TestCase):
             function, rest = source.choice(WITH_PLAN)
             with self.assertRaises(ShelfError):
                 function(source.choice(WRONG_PLANS)[0], *rest)
+            function, values = source.choice(WRONG_CALLS)
+            with self.assertRaises(ShelfError):
+                function(*values)
+
+
+class KnownProgramsTest(unittest.TestCase):
+    def assert_known(self, source, plan, state, effect, lefts, times):
+        self.assertEqual(run_program(PLAN, STATE, source), (plan, state))
+        self.assertEqual(program_effect(PLAN, 0, source), (plan, state[0], effect))
+        self.assertEqual([count_lefts(PLAN, STATE, source, parcel) for parcel in range(1, 6)], lefts)
+        self.assertEqual([repetitions_to(PLAN, STATE, source, 1, place) for place in places(PLAN)], times)
+        self.assertIsNone(program_order(PLAN, 0, source))
+
+    def test_known_programs_have_known_results(self):
+        for source, *known in KNOWN:
+            self.assert_known(source, *known)
+            self.assert_known(format_program(source), *known)
+            self.assert_known(simplify_program(source), *known)
+            self.assert_known(decode_program(encode_program(source)), *known)
+            plan, state = known[:2]
+            self.assertEqual(run_program(plan, state, invert_program(PLAN, source)), (PLAN, STATE))
+            self.assertIsNone(first_disagreement(PLAN, source, simplify_program(source)))
+
+    def test_in_another_order_with_errors_between_them(self):
+        source = Random(4)
+        for _ in range(60):
+            self.assert_known(*source.choice(KNOWN))
+            function, values = source.choice(WRONG_CALLS)
+            with self.assertRaises(ShelfError):
+                function(*values)
+
+    def test_known_texts(self):
+        source = KNOWN[1][0]
+        told = "repeat 2 {\n  ticks 1;\n  route 0: 1;\n  ticks 6;\n}"
+        self.assertEqual(simplify_program(source), told)
+        told = [71, 1, 1, 97, 2, 116, 3, 115, 0, 0, 1, 1, 1, 3, 108, 4, 2, 99, 0, 98, 1, 114, 1, 2, 1, 0, 116, 2, 79, 153]
+        self.assertEqual(unpack_bytes(encode_program(KNOWN[0][0])), told)
 
 
 if __name__ == "__main__":

@@ -52,6 +52,17 @@ INTERFACE = {
         "first_disagreement": "plan source other",
     },
     "program_printer": {"format_program": "source"},
+    "program_inversion": {"invert_program": "plan source"},
+    "program_simplifier": {"simplify_program": "source"},
+    "plan_text": {
+        "format_plan": "plan", "parse_plan": "text", "format_state": "plan state",
+        "parse_state": "plan text",
+    },
+    "packed": {
+        "pack_bytes": "numbers", "unpack_bytes": "data", "encode_plan": "plan",
+        "decode_plan": "data", "encode_state": "plan state", "decode_state": "plan data",
+        "encode_program": "source", "decode_program": "data",
+    },
 }
 
 METHODS = {

@@ -2,12 +2,10 @@
 
 import unittest
 
-from samples import ALONE, MOST, PLAN, STATE
+from programs import calls_with_plan, calls_without_plan
+from samples import ALONE, MOST, PLAN
 from swapshelves.errors import ProgramError, ProgramSyntaxError
-from swapshelves.program_printer import format_program
-from swapshelves.program_runs import (
-    count_lefts, first_disagreement, program_effect, program_order, repetitions_to, run_program,
-)
+from swapshelves.program_runs import first_disagreement, program_effect
 
 BIG = "9" * 19
 
@@ -93,19 +91,6 @@ def split(text):
     return before + behind, len(rows) - 1, len(rows[-1])
 
 
-def calls_with_plan(source):
-    """Return the list of functions that pass a program on with a plan."""
-    return [
-        lambda: run_program(PLAN, STATE, source),
-        lambda: program_effect(PLAN, 0, source),
-        lambda: count_lefts(PLAN, STATE, source, 1),
-        lambda: program_order(PLAN, 0, source),
-        lambda: repetitions_to(PLAN, STATE, source, 1, ("carrier", 0)),
-        lambda: first_disagreement(PLAN, source, ""),
-        lambda: first_disagreement(PLAN, "", source),
-    ]
-
-
 class ProgramErrorTest(unittest.TestCase):
     def assert_told(self, calls, reason, text):
         source, row, column = split(text)
@@ -118,12 +103,13 @@ class ProgramErrorTest(unittest.TestCase):
     def test_errors_that_every_function_raises(self):
         for reason, text in OF_ALL + TWO_OF_ALL:
             self.assert_told(calls_with_plan, reason, text)
-            self.assert_told(lambda source: [lambda: format_program(source)], reason, text)
+            self.assert_told(calls_without_plan, reason, text)
 
     def test_errors_that_only_functions_with_a_plan_raise(self):
         for reason, text in OF_PLANS:
             self.assert_told(calls_with_plan, reason, text)
-            format_program(split(text)[0])
+            for call in calls_without_plan(split(text)[0]):
+                call()
 
     def test_two_errors_of_which_one_needs_the_plan(self):
         for reason, text in TWO_OF_PLANS + SAME_TOKEN:
@@ -131,23 +117,18 @@ class ProgramErrorTest(unittest.TestCase):
 
     def test_at_one_token(self):
         # The second place is the same as the first, and the plan does not have it.
-        source = "swap carrier 2, carrier 2;"
-        with self.assertRaises(ProgramError) as caught:
-            format_program(source)
-        told = caught.exception
-        self.assertEqual((told.reason, told.row, told.column), ("swap", 0, 16))
+        self.assert_told(calls_without_plan, "swap", "swap carrier 2, |carrier 2;")
         self.assert_told(calls_with_plan, "place", "swap |carrier 2, carrier 2;")
 
     def test_the_grammar_comes_first(self):
         for _, text in OF_ALL + OF_PLANS:
             source, _, _ = split(text)
             for wrong in ("}", "ticks ;", "%", "01"):
-                for call in calls_with_plan(source + "\n" + wrong):
+                text = source + "\n" + wrong
+                for call in calls_with_plan(text) + calls_without_plan(text):
                     with self.assertRaises(ProgramSyntaxError) as caught:
                         call()
                     self.assertEqual(caught.exception.row, source.count("\n") + 1)
-                with self.assertRaises(ProgramSyntaxError):
-                    format_program(source + "\n" + wrong)
 
     def test_numbers_at_their_limits(self):
         for source in (
@@ -155,9 +136,8 @@ class ProgramErrorTest(unittest.TestCase):
             "route 1: 1 rest 0 1 rest 1;", "swap carrier 1, shelf 1 1;", "route 0: rest;",
             f"repeat {MOST} {{ back {MOST}; ticks {MOST}; }}",
         ):
-            for call in calls_with_plan(source):
+            for call in calls_with_plan(source) + calls_without_plan(source):
                 call()
-            format_program(source)
         with self.assertRaises(ProgramError):
             program_effect(ALONE, 0, "swap carrier 0, shelf 0 0;")
 
@@ -166,9 +146,8 @@ class ProgramErrorTest(unittest.TestCase):
             "define a {} call a;", "define a {}\ndefine b { call a; repeat 2 { call a; } } call b; call a;",
             "ticks 1; define b {} define a { call b; } repeat 3 { call a; }",
         ):
-            for call in calls_with_plan(source):
+            for call in calls_with_plan(source) + calls_without_plan(source):
                 call()
-            format_program(source)
 
     def test_errors_of_two_programs(self):
         for one, other, reason in (

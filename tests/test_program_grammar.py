@@ -2,13 +2,11 @@
 
 import unittest
 
-from programs import canonical, loose, plain, random_program, words_of
-from samples import BUSY, PLAN, STATE, all_plans
+from programs import calls_with_plan, calls_without_plan, canonical, loose, plain, random_program, words_of
+from samples import BUSY, all_plans, scattered
 from swapshelves.errors import ProgramSyntaxError
 from swapshelves.program_printer import format_program
-from swapshelves.program_runs import (
-    count_lefts, first_disagreement, program_effect, program_order, repetitions_to, run_program,
-)
+from swapshelves.program_runs import run_program
 
 KEYWORDS = ("ticks", "back", "swap", "route", "repeat", "call", "define", "carrier", "shelf", "rest")
 NUMBER = "9" * 19
@@ -29,23 +27,9 @@ STRANGE = ("%", "\t", "\r", "A", "Z", "_", "-", "+", ".", "!", "~", "(", ")", "[
            "<", ">", "@", "$", "&", "^", "`", "|", "?", "\x00", "\x7f", "\xa0", "\u00e9", "\u0663", "\u2028")
 
 
-def every_call(source):
-    """Return the list of functions that pass a program on to each function that takes one."""
-    return [
-        lambda: format_program(source),
-        lambda: run_program(PLAN, STATE, source),
-        lambda: program_effect(PLAN, 0, source),
-        lambda: count_lefts(PLAN, STATE, source, 1),
-        lambda: program_order(PLAN, 0, source),
-        lambda: repetitions_to(PLAN, STATE, source, 1, ("carrier", 0)),
-        lambda: first_disagreement(PLAN, source, ""),
-        lambda: first_disagreement(PLAN, "", source),
-    ]
-
-
 class GrammarTest(unittest.TestCase):
     def assert_refused(self, source, row, column):
-        for call in every_call(source):
+        for call in calls_with_plan(source) + calls_without_plan(source):
             with self.assertRaises(ProgramSyntaxError, msg=source) as caught:
                 call()
             self.assertEqual((caught.exception.row, caught.exception.column), (row, column), source)
@@ -62,7 +46,7 @@ class GrammarTest(unittest.TestCase):
 
     def test_right_programs_of_every_function(self):
         for source in RIGHT:
-            for call in every_call(source):
+            for call in calls_with_plan(source) + calls_without_plan(source):
                 call()
 
     def test_random_programs_in_any_layout(self):
@@ -183,7 +167,7 @@ class GrammarTest(unittest.TestCase):
         for depth in (20, 25, 300):
             source = "repeat 1 {" * depth + "ticks 1;" + "}" * depth
             self.assertEqual(format_program(source).count("\n"), 2 * depth)
-            self.assertEqual(run_program(BUSY, (0, (1, 2, 3, 4, 5), ((), (6, 7, 8), tuple(range(9, 18)), (18,))), source)[1][0], 1)
+            self.assertEqual(run_program(BUSY, scattered(BUSY, 6), source)[1][0], 7)
             self.assert_refused(source[:-1], 1, 0)
             self.assert_refused(source + "}", 0, len(source))
         source = "ticks 1;\n" * 5000
