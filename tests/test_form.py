@@ -138,6 +138,39 @@ class FormTest(unittest.TestCase):
                 if isinstance(node, ast.Constant) and isinstance(node.value, str):
                     self.assertNotIn("%", node.value, name)
 
+    def test_what_stands_before_a_percent_sign_is_certainly_a_number(self):
+        # The package creates bytes, to which the sign would mean something else.
+        for name, text in sources():
+            for node in ast.walk(ast.parse(text)):
+                if isinstance(node, ast.BinOp) and isinstance(node.op, ast.Mod):
+                    told = ast.unparse(node.left)
+                    self.assertRegex(told, r"^(int|len)\(.*\)$|^\w+ - \d+$", name)
+
+    def test_nothing_is_imported_that_is_not_used(self):
+        for name, text in sources():
+            tree = ast.parse(text)
+            used = {node.id for node in ast.walk(tree) if isinstance(node, ast.Name)}
+            for node in ast.walk(tree):
+                if isinstance(node, ast.ImportFrom):
+                    for alias in node.names:
+                        self.assertIn(alias.name, used, name)
+
+    def test_imports_name_the_file_that_defines_the_name(self):
+        defined = {}
+        for name, text in sources():
+            for node in ast.parse(text).body:
+                if isinstance(node, (ast.FunctionDef, ast.ClassDef)):
+                    defined.setdefault("swapshelves." + name[:-3], []).append(node.name)
+                if isinstance(node, ast.Assign):
+                    words = [target.id for target in node.targets]
+                    defined.setdefault("swapshelves." + name[:-3], []).extend(words)
+        for name, text in sources():
+            for node in ast.walk(ast.parse(text)):
+                if isinstance(node, ast.ImportFrom) and node.module in defined:
+                    for alias in node.names:
+                        self.assertIn(alias.name, defined[node.module], name)
+                        self.assertIsNone(alias.asname, name)
+
 
 if __name__ == "__main__":
     unittest.main()
